@@ -1,0 +1,1 @@
+"""Closerworks: the least closed lot around each lot of things."""

@@ -1,0 +1,11 @@
+"""The greatest sizes of what the package takes."""
+
+MOST_THINGS = 7
+MOST_ROWS = 60
+MOST_RULES = 200
+MOST_LINES = 64
+MOST_VALUE = 1000
+MOST_PARTS = 35
+MOST_ANSWERS = 12
+MOST_LISTED = 3
+MOST_WEIGHT = 1000000

@@ -1,0 +1,259 @@
+"""What several tests need: wrong values of all kinds, a check of errors, and closers to ask."""
+
+import copy
+import functools
+import inspect
+import itertools
+import random
+import unittest
+
+from closerworks import errors
+from closerworks.closers import Closer
+
+
+def odd_values():
+    """Values that are neither strings nor tuples."""
+    return [
+        True, False, None, 0, 1, -1, 3, 10 ** 99, 1j, b"", b"a", b"ab", bytearray(b"a"), [], ["a"], ["", "a", "ab"],
+        [["a", "b"]], {}, {"a": 1}, {"": "a"}, set(), {"a"}, frozenset("ab"), range(2), iter("ab"), object(), len,
+        Closer, Closer("a", ("a",)), Closer("ab", ("", "ab")), errors.InvalidLot("a"), errors.InvalidLot, ValueError("a"),
+        lambda: "a", Ellipsis, NotImplemented, slice(0, 1), itertools, [[[[[[[[["a"]]]]]]]]],
+    ]
+
+
+def odd_tuples():
+    """Tuples that are no rules, and no families, books or rows unless they are empty."""
+    return [
+        (True,), (None,), (0,), (1, 2), ((),), ((), ()), (("",),), (b"a",), (["a"], ["b"]), ({},), (("a",), ("b",)),
+        ("A",), ("z", "Z"), ((((((((("a",),),),),),),),),),
+    ]
+
+
+def odd_words():
+    """Strings that are no lots of any things."""
+    return [
+        "ba", "aa", "aba", "abb", "aab", "acb", "bac", "A", "Ab", "aB", "ABC", " ", "a ", " a", "a b", "-", "a-", "-a", "0",
+        "a1", "1a", "_", "`", "`a", "{", "a{", "~", "a~", "\n", "a\n", "\na", "\t", "\x00", "a\x00", "\u00e9", "a\u00e9",
+        "\uff41", "a,b", "None", "a" * 4000, " " * 4000, "abcdefghijklmnopqrstuvwxyza", "zyxwvutsrqponmlkjihgfedcba",
+    ]
+
+
+def wrong_things():
+    """Values that are no things, each with what the error has."""
+    values = odd_values() + odd_tuples() + odd_words()
+    values += [(), "", ("a", "b"), ("a",), "abcdefgh", "abcdefghijklmnopqrstuvwxyz", "stuvwxyz"]
+    return [(value, value) for value in values]
+
+
+def wrong_any_lots():
+    """Values that are no lots of any things."""
+    values = odd_values() + odd_tuples() + odd_words()
+    values += [(), ("a", "b"), ("a",), "abcdefgh", "abcdefghijklmnopqrstuvwxyz", "stuvwxyz"]
+    return [(value, value) for value in values]
+
+
+def outside(things):
+    """A letter that is none of the things."""
+    return [letter for letter in "abcdefgh" if letter not in things][0]
+
+
+def wrong_lots(things):
+    """Values that are no lots of these things."""
+    other = outside(things)
+    values = [other, "".join(sorted(things + other)), "abcdefgh", things + things[-1], things[0] + things[0]]
+    return wrong_any_lots() + [(value, value) for value in values]
+
+
+def wrong_members(things):
+    """Values that cannot be a lot of these things, also no tuples of two lots."""
+    return [value for value, _ in wrong_lots(things)]
+
+
+def no_tuples():
+    """Values that are no tuples, each with None."""
+    return [(value, None) for value in odd_values() + odd_words() + ["", "a", "ab", "abc"]]
+
+
+def wrong_families(things):
+    """Values that are no families of lots of these things, each with the index that the error has."""
+    first, last = things[0], things[-1]
+    found = no_tuples() + [([first, last], None), ([], None)]
+    for member in wrong_members(things):
+        found += [((member,), 0), (("", member), 1), (("", first, member, member), 2), ((member, first, ""), 0)]
+    found += [(("", ""), 1), ((things, things), 1), ((things, ""), 1), (("", first, first), 2), (("", first, ""), 2)]
+    found += [(("", first, things, things, "?"), 3 if len(things) > 1 else 2)]
+    if len(things) > 1:
+        found += [((last, first), 1), (("", last, first, "?"), 2), ((first, last, things), 2)]
+    return found
+
+
+def wrong_tuples_of_lots(things, most):
+    """Values that are no tuples of up to so many lots, each with the index that the error has."""
+    first = things[0]
+    found = no_tuples() + [([first, things], None), ([], None)]
+    for member in wrong_members(things):
+        found += [((member,), 0), ((things, "", member), 2), ((first, first, member, member), 2)]
+    found += [((first,) * (most + 1), most), (("",) * (most + 2), most), ((first,) * most + ("?",), most)]
+    found += [(("?",) + (first,) * most, 0), ((first,) * 5 + ("?",) + (first,) * most, 5)]
+    return found
+
+
+def wrong_rules(things):
+    """Values that are no rules between lots of these things."""
+    first = things[0]
+    values = odd_values() + odd_words() + odd_tuples() + ["", first, things, (), (first,), (first, first, first)]
+    values += [[first, first], ("", "", ""), ((first, first),), {first: first}]
+    for member in wrong_members(things):
+        values += [(member, first), (first, member), (member, member), (member, ""), ("", member)]
+    return [(value, value) for value in values]
+
+
+def wrong_books(things, most=200):
+    """Values that are no books of rules between lots of these things, each with the index that the error has."""
+    rule = ("", things[0])
+    found = no_tuples() + [([rule], None), ([], None), (rule, 0), (("ab", "bc"), 0)]
+    for wrong, _ in wrong_rules(things):
+        found += [((wrong,), 0), ((rule, wrong), 1), ((rule, rule, wrong, wrong), 2), ((wrong, rule), 0)]
+    found += [((rule,) * (most + 1), most), ((rule,) * (most + 7), most), ((rule,) * most + (None,), most)]
+    found += [((None,) + (rule,) * most, 0), ((rule,) * 9 + (None,) + (rule,) * most, 9)]
+    return found
+
+
+def wrong_closers():
+    """Values that are no closers."""
+    values = odd_words() + odd_tuples() + ["", "a", "ab - ab", (), ("ab", ("", "ab")), ("a", ("a",)), Closer]
+    values += [value for value in odd_values() if not isinstance(value, Closer)]
+    return [(value, value) for value in values]
+
+
+def told(error):
+    """The one attribute of an error."""
+    (value,) = vars(error).values()
+    return value
+
+
+class Case(unittest.TestCase):
+    """A test with checks of errors and of calls."""
+
+    def check_raises(self, kind, value, action, *args, **named):
+        """The call raises this very error with this value, and changes nothing that it is passed."""
+        shown = [repr(arg) for arg in args]
+        try:
+            result = action(*args, **named)
+        except Exception as error:
+            self.assertIs(type(error), kind, (action, args, named))
+            if isinstance(value, int) and hasattr(error, "index"):
+                self.assertEqual((type(told(error)), told(error)), (int, value), (action, args, named))
+            elif isinstance(value, (str, int)):
+                self.assertEqual((type(told(error)), told(error)), (type(value), value), (action, args, named))
+            else:
+                self.assertIs(told(error), value, (action, args, named))
+        else:
+            self.fail(f"{action} with {args} {named} returned {result!r}, and raised no {kind}")
+        self.assertEqual(shown, [repr(arg) for arg in args])
+
+    def check_call(self, action, names, args, kinds):
+        """Arguments go by position and by name; a wrong one is told, the first one of several.
+
+        `kinds` has for each argument the class of its error and pairs of a wrong value and what the error has.
+        """
+        named = dict(zip(names, args))
+        right = action(*args)
+        for result in (action(**named), action(*args), action(*copy.deepcopy(args)),
+                       action(**dict(reversed(list(named.items())))), action(args[0], **dict(list(named.items())[1:]))):
+            self.assertEqual(result, right)
+            self.assertIs(type(result), type(right))
+        listed = [parameter for parameter in inspect.signature(action).parameters]
+        self.assertEqual(listed, list(names))
+        for at, (kind, wrongs) in enumerate(kinds):
+            for value, has in wrongs:
+                self.check_raises(kind, has, action, *args[:at], value, *args[at + 1:])
+                behind = [pairs[0][0] for _, pairs in kinds[at + 1:]]
+                self.check_raises(kind, has, action, *args[:at], value, *behind)
+            value, has = wrongs[-1]
+            self.check_raises(kind, has, action, **{**named, names[at]: value})
+
+
+def every_lot(things):
+    """All lots of some things, told in another way than by the program."""
+    return sorted("".join(part) for size in range(len(things) + 1) for part in itertools.combinations(things, size))
+
+
+def every_family(things):
+    """All families of lots of some things."""
+    lots = every_lot(things)
+    for size in range(len(lots) + 1):
+        yield from itertools.combinations(lots, size)
+
+
+def as_lot(letters):
+    """The lot of some letters."""
+    return "".join(sorted(set(letters)))
+
+
+def some_families(things, many, seed):
+    """Some families of lots of these things, the same ones each time."""
+    chance = random.Random(seed)
+    lots = every_lot(things)
+    for _ in range(many):
+        yield tuple(sorted(chance.sample(lots, chance.randint(0, min(9, len(lots))))))
+
+
+def some_books(things, many, seed):
+    """Some books of rules between lots of these things, the same ones each time."""
+    chance = random.Random(seed)
+    lots = every_lot(things)
+    for _ in range(many):
+        yield tuple((chance.choice(lots), chance.choice(lots)) for _ in range(chance.randint(0, 6)))
+
+
+def meets_by_subsets(things, family):
+    """The meets of a small family, by looking at all lots of its lots."""
+    found = set()
+    for size in range(len(family) + 1):
+        for some in itertools.combinations(family, size):
+            found.add("".join(letter for letter in things if all(letter in lot for lot in some)))
+    return tuple(sorted(found))
+
+
+def keeps_rule(lot, rule):
+    """Whether a lot keeps a rule."""
+    return not set(rule[0]) <= set(lot) or set(rule[1]) <= set(lot)
+
+
+def closed_by_book(things, book):
+    """The lots that keep all rules of a book."""
+    return tuple(lot for lot in every_lot(things) if all(keeps_rule(lot, rule) for rule in book))
+
+
+def around_in(things, closed, lot):
+    """What is in common to all closed lots around a lot."""
+    wide = [set(other) for other in closed if set(lot) <= set(other)]
+    return "".join(letter for letter in things if all(letter in other for other in wide))
+
+
+@functools.cache
+def all_systems_of(things):
+    """All families with the whole and all their meets, found by looking at all families."""
+    return tuple(family for family in every_family(things) if things in family
+                 and all("".join(x for x in a if x in b) in family for a in family for b in family))
+
+
+def example_closers():
+    """The closers that the examples of the document name."""
+    from closerworks.telling import by_rules
+    flat = Closer("abc", ("", "a", "abc", "b", "c"))
+    line = by_rules("abc", (("ac", "b"),))
+    four = by_rules("abcd", (("ab", "c"), ("c", "d")))
+    return flat, line, four
+
+
+def sample_closers():
+    """Closers of one, two, three and seven things, the whole alone and all lots among them."""
+    from closerworks.telling import by_family, by_rules
+    found = [Closer(things, closed) for things in ("a", "b", "ab", "xz") for closed in all_systems_of(things)]
+    found += list(example_closers())
+    found += [Closer("abcdefg", ("abcdefg",)), Closer("tuvwxyz", tuple(every_lot("tuvwxyz")))]
+    found += [by_family("abcdefg", family) for family in some_families("abcdefg", 6, 11)]
+    found += [by_rules("bdfhjln", book) for book in some_books("bdfhjln", 6, 12)]
+    return found

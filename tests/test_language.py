@@ -1,0 +1,119 @@
+"""The files of the package keep to the subset of the language, as far as a look at their text can tell."""
+
+import ast
+import builtins
+import io
+import pathlib
+import tokenize
+import unittest
+
+import closerworks
+
+FOLDER = pathlib.Path(closerworks.__file__).parent
+FILES = sorted(FOLDER.glob("*.py"))
+BUILTINS = set("""len range enumerate zip min max sum abs sorted reversed int str bool list tuple dict set isinstance ord
+    repr any all divmod pow True False None ValueError LookupError ArithmeticError property classmethod
+    NotImplemented""".split())
+BARRED = set("""type typing enum Enum Flag Generic Protocol ABC namedtuple dataclass overload contextmanager register mro
+    elements open input law eval exec compile globals locals vars dir id os sys copyright credits license""".split())
+ORDER = """limits errors lots closers telling comparing rules books keys sheets parts tables orders topologies convex
+    peels exchange riddles benches desks checker certificates console""".split()
+STATEMENTS = (ast.AsyncFunctionDef, ast.AsyncFor, ast.AsyncWith, ast.Await, ast.Global, ast.GeneratorExp, ast.Yield,
+              ast.YieldFrom, ast.Div, ast.AnnAssign, ast.Try, ast.Lambda)
+DOUBLE = {"__init__", "__eq__", "__repr__", "__str__", "__len__", "__enter__", "__exit__"}
+
+
+class Language(unittest.TestCase):
+
+    def trees(self):
+        for path in FILES:
+            text = path.read_text(encoding="ascii")
+            yield path, text, ast.parse(text)
+
+    def test_the_folder_holds_files_of_python_alone(self):
+        held = [path for path in FOLDER.iterdir() if path.name != "__pycache__"]
+        self.assertEqual(sorted(held), FILES)
+        self.assertTrue(all(path.stem in ORDER + ["__init__"] for path in FILES))
+        self.assertIn(FOLDER / "__init__.py", FILES)
+
+    def test_sizes_and_characters(self):
+        for path, text, tree in self.trees():
+            rows = text.splitlines()
+            self.assertLessEqual(len(rows), 399, path)
+            for at, row in enumerate(rows, 1):
+                self.assertLessEqual(len(row), 120, (path, at))
+                self.assertTrue(all(" " <= sign <= "~" for sign in row), (path, at))
+                self.assertEqual(row, row.rstrip(), (path, at))
+            for node in ast.walk(tree):
+                if isinstance(node, ast.FunctionDef):
+                    self.assertLessEqual(node.end_lineno - node.lineno + 1, 40, (path, node.name))
+
+    def test_imports_name_modules_listed_ahead(self):
+        for path, _, tree in self.trees():
+            self.assertFalse([node for node in ast.walk(tree) if isinstance(node, ast.Import)], path)
+            for node in ast.walk(tree):
+                if isinstance(node, ast.ImportFrom):
+                    self.assertIn(node, tree.body, path)
+                    self.assertEqual(node.level, 0, path)
+                    package, _, module = node.module.partition(".")
+                    self.assertEqual(package, "closerworks", path)
+                    self.assertLess(ORDER.index(module), ORDER.index(path.stem), path)
+                    held = ast.parse((FOLDER / (module + ".py")).read_text(encoding="ascii")).body
+                    names = {name for row in held for name in self.bound(row)}
+                    self.assertLessEqual({alias.name for alias in node.names}, names, path)
+                    self.assertTrue(all(alias.asname is None for alias in node.names), path)
+
+    def bound(self, row):
+        if isinstance(row, (ast.FunctionDef, ast.ClassDef)):
+            return [row.name]
+        return [target.id for target in row.targets] if isinstance(row, ast.Assign) else []
+
+    def test_statements_and_decorators(self):
+        for path, _, tree in self.trees():
+            for node in ast.walk(tree):
+                self.assertNotIsInstance(node, STATEMENTS, path)
+                if isinstance(node, ast.Constant):
+                    self.assertIn(type(node.value), (int, str, bool, type(None)), path)
+                if isinstance(node, (ast.FunctionDef, ast.ClassDef)):
+                    told = [name.id for name in node.decorator_list]
+                    self.assertIn(told, ([], ["property"], ["classmethod"]), (path, node.name))
+                    self.assertIsNotNone(ast.get_docstring(node) or node.name.startswith("__") or None, (path, node.name))
+                    self.assertTrue(not node.name.startswith("__") or node.name in DOUBLE, (path, node.name))
+                if isinstance(node, ast.Attribute):
+                    self.assertFalse(node.attr.startswith("__"), (path, node.attr))
+
+    def test_modules_hold_only_definitions(self):
+        for path, _, tree in self.trees():
+            self.assertIsNotNone(ast.get_docstring(tree), path)
+            for row in tree.body[1:]:
+                self.assertIsInstance(row, (ast.ImportFrom, ast.FunctionDef, ast.ClassDef, ast.Assign), path)
+            names = [name for row in tree.body for name in self.bound(row)]
+            names += [alias.name for row in tree.body if isinstance(row, ast.ImportFrom) for alias in row.names]
+            self.assertEqual(len(names), len(set(names)), path)
+
+    def test_names_that_are_used(self):
+        for path, text, tree in self.trees():
+            words = [token.string for token in tokenize.generate_tokens(io.StringIO(text).readline)
+                     if token.type == tokenize.NAME]
+            self.assertFalse(BARRED & set(words), path)
+            own = {node.id for node in ast.walk(tree) if isinstance(node, ast.Name) and isinstance(node.ctx, ast.Store)}
+            own |= {node.arg for node in ast.walk(tree) if isinstance(node, ast.arg)}
+            self.assertFalse(own & (BUILTINS | set(dir(builtins)) - {"_"}), path)
+            named = {name for row in tree.body for name in self.bound(row)}
+            named |= {alias.name for row in tree.body if isinstance(row, ast.ImportFrom) for alias in row.names}
+            read = {node.id for node in ast.walk(tree) if isinstance(node, ast.Name) and isinstance(node.ctx, ast.Load)}
+            self.assertLessEqual(read, named | own | BUILTINS, path)
+
+    def test_no_local_name_is_that_of_an_import_or_a_class(self):
+        for path, _, tree in self.trees():
+            barred = {alias.name for row in tree.body if isinstance(row, ast.ImportFrom) for alias in row.names}
+            barred |= {row.name for row in tree.body if isinstance(row, ast.ClassDef)}
+            for node in ast.walk(tree):
+                if isinstance(node, ast.Name) and isinstance(node.ctx, ast.Store):
+                    self.assertNotIn(node.id, barred, path)
+                if isinstance(node, ast.arg):
+                    self.assertNotIn(node.arg, barred, path)
+
+
+if __name__ == "__main__":
+    unittest.main()
