@@ -4,7 +4,7 @@ Inside of the package a lot of some things also has a number, in which the k-th 
 that many lots can be compared fast.
 """
 
-from closerworks.errors import InvalidFamily, InvalidLot, InvalidThings
+from closerworks.errors import InvalidFamily, InvalidLot, InvalidThings, UnknownThing
 from closerworks.limits import MOST_THINGS
 
 
@@ -40,6 +40,16 @@ def is_lot(things, value):
     return is_word(value) and has_all(things, value)
 
 
+def is_thing(things, value):
+    """Tell whether a value is one of these things."""
+    return is_lot(things, value) and len(value) == 1
+
+
+def is_number(value, most):
+    """Tell whether a value is an integer from 0 to the greatest one that is allowed."""
+    return isinstance(value, int) and not isinstance(value, bool) and 0 <= value <= most
+
+
 def check_any_lot(lot):
     """Raise an error for what is no lot of any things."""
     if not is_any_lot(lot):
@@ -56,6 +66,12 @@ def check_lot(things, lot):
     """Raise an error for what is no lot of these things."""
     if not is_lot(things, lot):
         raise InvalidLot(lot)
+
+
+def check_thing(things, thing):
+    """Raise an error for what is none of these things."""
+    if not is_thing(things, thing):
+        raise UnknownThing(thing)
 
 
 def check_family(things, family):
@@ -130,6 +146,16 @@ def greatest_numbers(numbers):
     return [lot for lot in numbers if not any([more != lot and more & lot == lot for more in numbers])]
 
 
+def least_of(things, lots):
+    """Tell the family of the least ones of lots of these things, which may be in any order, and alike."""
+    return family_of(things, least_numbers(numbers_of(things, sorted(set(lots)))))
+
+
+def greatest_of(things, lots):
+    """Tell the family of the greatest ones of lots of these things, which may be in any order, and alike."""
+    return family_of(things, greatest_numbers(numbers_of(things, sorted(set(lots)))))
+
+
 def meets_of(things, lots):
     """Tell the family of the meets of lots of these things, which may be in any order, and alike."""
     whole = len(lots_by_number(things)) - 1
@@ -187,14 +213,14 @@ def least_ones(things, family):
     """Tell the family of the least lots of a family."""
     check_things(things)
     check_family(things, family)
-    return family_of(things, least_numbers(numbers_of(things, family)))
+    return least_of(things, family)
 
 
 def greatest_ones(things, family):
     """Tell the family of the greatest lots of a family."""
     check_things(things)
     check_family(things, family)
-    return family_of(things, greatest_numbers(numbers_of(things, family)))
+    return greatest_of(things, family)
 
 
 def meets(things, family):

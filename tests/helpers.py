@@ -9,6 +9,7 @@ import unittest
 
 from closerworks import errors
 from closerworks.closers import Closer
+from closerworks.tables import Table
 
 
 def odd_values():
@@ -16,7 +17,7 @@ def odd_values():
     return [
         True, False, None, 0, 1, -1, 3, 10 ** 99, 1j, b"", b"a", b"ab", bytearray(b"a"), [], ["a"], ["", "a", "ab"],
         [["a", "b"]], {}, {"a": 1}, {"": "a"}, set(), {"a"}, frozenset("ab"), range(2), iter("ab"), object(), len,
-        Closer, Closer("a", ("a",)), Closer("ab", ("", "ab")), errors.InvalidLot("a"), errors.InvalidLot, ValueError("a"),
+        Closer, Closer("a", ("a",)), Closer("ab", ("", "ab")), Table, Table("a", ("a",)), Table("ab", ()), errors.InvalidLot("a"), errors.InvalidLot, ValueError("a"),
         lambda: "a", Ellipsis, NotImplemented, slice(0, 1), itertools, [[[[[[[[["a"]]]]]]]]],
     ]
 
@@ -74,6 +75,12 @@ def no_tuples():
     return [(value, None) for value in odd_values() + odd_words() + ["", "a", "ab", "abc"]]
 
 
+def wrong_single_things(things):
+    """Values that are none of these things."""
+    values = ["", " ", things[0] * 2, (things[0],), [things[0]]] + [lot for lot in every_lot(things) if len(lot) > 1]
+    return wrong_lots(things) + [(value, value) for value in values]
+
+
 def wrong_families(things):
     """Values that are no families of lots of these things, each with the index that the error has."""
     first, last = things[0], things[-1]
@@ -124,6 +131,91 @@ def wrong_closers():
     values = odd_words() + odd_tuples() + ["", "a", "ab - ab", (), ("ab", ("", "ab")), ("a", ("a",)), Closer]
     values += [value for value in odd_values() if not isinstance(value, Closer)]
     return [(value, value) for value in values]
+
+
+def wrong_tables():
+    """Values that are no tables."""
+    values = odd_words() + odd_tuples() + ["", "a", (), ("ab", ("a",)), ("a", "ab"), Table]
+    values += [value for value in odd_values() if not isinstance(value, Table)]
+    return [(value, value) for value in values]
+
+
+def wrong_integers(most):
+    """Values that are no integers from 0 to a greatest one."""
+    values = [value for value in odd_values() if isinstance(value, bool) or not isinstance(value, int)]
+    return values + odd_words() + odd_tuples() + ["", "0", (), (0,), [0], -1, -most - 1, most + 1, 10 ** 99, -10 ** 99]
+
+
+def wrong_sheets(things):
+    """Values that are no sheets for these things, each with the index that the error has."""
+    width = len(things)
+    one, two, many = (0,) * width, (0,) * (width - 1) + (1,), (1000,) * width
+    found = no_tuples() + [([one], None), ([], None), (one, 0), ([one, two], None)]
+    for value in wrong_integers(1000):
+        found += [((one, (0,) * (width - 1) + (value,)), 1), (((value,) + (0,) * (width - 1), one), 0)]
+    for line in odd_values() + odd_words() + odd_tuples()[4:] + ["", things, (), list(one), one + (0,), one[1:], (one,)]:
+        found += [((line,), 0), ((one, line), 1), ((one, two, line, line), 2), ((line, one), 0)]
+    found += [((one, one), 1), ((two, one), 1), ((one, two, two), 2), ((one, two, many, many), 3), ((many, two, None), 1)]
+    if width > 1:
+        lines = tuple((0,) * (width - 2) + (at // 8, at % 8) for at in range(64))
+    else:
+        lines = tuple((at,) for at in range(64))
+    found += [(lines + (many,), 64), (lines + (None,), 64), (lines[:9] + ("?",) + lines, 9), (lines + lines, 64)]
+    return found
+
+
+def wrong_parts(things):
+    """Values that are no parts of these things, each with the index that the error has."""
+    first, last = things[0], things[-1]
+    found = no_tuples() + [([things], None), ([first, last], None), ([], None), ((), 0), (("",), 0), (("", things), 0)]
+    for member in wrong_members(things):
+        found += [((member,), 0), ((member, things), 0), ((things, member), 1), ((first, member, member), 1)]
+    found += [((things, things), 1), ((things, ""), 1), ((first, ""), 1), ((first, "", "?"), 1)]
+    if len(things) > 1:
+        found += [((first,), 1), ((last,), 1), ((last, first), 1), ((first, things), 1), ((things, last), 1)]
+    if len(things) > 2:
+        second = things[1]
+        found += [((first, second), 2), ((first + second, last, last), 2), ((first, second, second + last), 2)]
+        found += [((first + last, second, first), 2), ((first + second, last, things), 2), ((first + second, second), 1)]
+        found += [((first, second, "?", first), 2), ((first, second + last, things), 2)]
+    if len(things) > 3:
+        found += [((first + second, first + last), 2), ((first + last, second), 2), ((things[:-1],), 1), ((things[1:],), 1)]
+    return found
+
+
+def wrong_numbers(many):
+    """Values that are no ascending tuples of so many indexes, each with the index that the error has."""
+    found = no_tuples() + [([0], None), ([], None), (0, None), (range(many), None)]
+    for value in wrong_integers(many - 1):
+        found += [((value,), 0), ((value, 0), 0)]
+        if many > 1:
+            found += [((0, value), 1), ((0, 1, value, value), 2)]
+    if many:
+        found += [((0, 0), 1), ((False,), 0), ((many - 1, 0), 1), ((many,), 0), ((0, many), 1)]
+    if many > 1:
+        found += [((1, 0), 1), ((0, 1, 1), 2), ((0, True), 1), ((0, 1, 0, "?"), 2)]
+    return found
+
+
+def wrong_leads(things):
+    """Values that are no tuples of leads, each with the index that the error has."""
+    found = no_tuples() + [([], None), (["ab"], None)]
+    values = odd_values() + odd_words() + odd_tuples() + ["", "a", things + "a", outside(things) * 2, (), ("a", "b")]
+    values += [things[0] * 2, things[0], things[0] + outside(things), outside(things) + things[0], things[0] + "-"]
+    values = [value for value in values if not (isinstance(value, str) and len(value) == 2 and set(value) <= set(things)
+                                                and value[0] != value[1])]
+    for value in values:
+        found += [((value,), 0), ((value, "ab"), 0), ((value, value, "?"), 0)]
+    if len(things) > 1:
+        lead, back = things[0] + things[1], things[1] + things[0]
+        for value in values:
+            found += [((lead, value), 1), ((lead, back, value, value), 2)]
+        found += [((lead, lead), 1), ((back, lead), 1), ((lead, back, back), 2), ([lead], None), ((back, lead, "?"), 1)]
+    if len(things) > 2:
+        first, second, third = things[:3]
+        found += [((first + second, second + third), None), ((first + second, third + first), None),
+                  ((first + second, second + first, second + third), None), ((first + third, first + second), 1)]
+    return found
 
 
 def told(error):
@@ -237,6 +329,18 @@ def all_systems_of(things):
     """All families with the whole and all their meets, found by looking at all families."""
     return tuple(family for family in every_family(things) if things in family
                  and all("".join(x for x in a if x in b) in family for a in family for b in family))
+
+
+def closers_of(things):
+    """All closers of up to three things."""
+    return [Closer(things, closed) for closed in all_systems_of(things)]
+
+
+def some_closers(things, many, seed):
+    """Some closers of these things, told by rules and by families, the same ones each time."""
+    from closerworks.telling import by_family, by_rules
+    found = [by_rules(things, book) for book in some_books(things, many // 2, seed)]
+    return found + [by_family(things, family) for family in some_families(things, many - many // 2, seed)]
 
 
 def example_closers():

@@ -20,7 +20,7 @@ ORDER = """limits errors lots closers telling comparing rules books keys sheets 
     peels exchange riddles benches desks checker certificates console""".split()
 STATEMENTS = (ast.AsyncFunctionDef, ast.AsyncFor, ast.AsyncWith, ast.Await, ast.Global, ast.GeneratorExp, ast.Yield,
               ast.YieldFrom, ast.Div, ast.AnnAssign, ast.Try, ast.Lambda)
-DOUBLE = {"__init__", "__eq__", "__repr__", "__str__", "__len__", "__enter__", "__exit__"}
+DOUBLE = {"__init__", "__eq__", "__repr__", "__str__", "__len__", "__bool__", "__enter__", "__exit__"}
 
 
 class Language(unittest.TestCase):
@@ -81,6 +81,33 @@ class Language(unittest.TestCase):
                     self.assertTrue(not node.name.startswith("__") or node.name in DOUBLE, (path, node.name))
                 if isinstance(node, ast.Attribute):
                     self.assertFalse(node.attr.startswith("__"), (path, node.attr))
+
+    def test_is_stands_beside_none_true_and_false_alone(self):
+        for path, _, tree in self.trees():
+            for node in ast.walk(tree):
+                if isinstance(node, ast.Compare) and any(isinstance(sign, (ast.Is, ast.IsNot)) for sign in node.ops):
+                    sides = [node.left] + node.comparators
+                    self.assertTrue(any(isinstance(side, ast.Constant) and side.value in (None, True, False)
+                                        for side in sides), (path, node.lineno))
+
+    def test_sets_stand_directly_in_sorted_and_len(self):
+        for path, _, tree in self.trees():
+            held = [id(part) for node in ast.walk(tree) if isinstance(node, ast.Call) and isinstance(node.func, ast.Name)
+                    and node.func.id in ("sorted", "len") and not node.keywords for part in node.args]
+            for node in ast.walk(tree):
+                called = isinstance(node, ast.Call) and isinstance(node.func, ast.Name) and node.func.id == "set"
+                if called or isinstance(node, (ast.SetComp, ast.Set)):
+                    self.assertIn(id(node), held, (path, node.lineno))
+
+    def test_methods_of_builtin_values(self):
+        allowed = set("""append clear copy count endswith extend find get index insert items join keys pop remove replace
+            setdefault sort split startswith strip update values""".split())
+        for path, _, tree in self.trees():
+            own = {row.name for other in self.trees() for node in ast.walk(other[2]) if isinstance(node, ast.ClassDef)
+                   for row in node.body if isinstance(row, ast.FunctionDef)}
+            for node in ast.walk(tree):
+                if isinstance(node, ast.Call) and isinstance(node.func, ast.Attribute):
+                    self.assertIn(node.func.attr, allowed | own, (path, node.lineno))
 
     def test_modules_hold_only_definitions(self):
         for path, _, tree in self.trees():
