@@ -74,6 +74,11 @@ def check_thing(things, thing):
         raise UnknownThing(thing)
 
 
+def is_family(things, value):
+    """Tell whether a value is a family of lots of these things."""
+    return isinstance(value, tuple) and first_wrong(things, value) is None
+
+
 def check_family(things, family):
     """Raise an error for what is no family of lots of these things."""
     if not isinstance(family, tuple):

@@ -49,14 +49,21 @@ def levelled(lines, place, one, other):
                   for line in lines])
 
 
-def trail_of(closer, parts):
-    """Tell the lines at the end of the trail, without a look at what was passed."""
+def walked(closer, parts):
+    """Tell the steps of the trail and the lines at its end, without a look at what was passed."""
+    taken = []
     lines = first_lines(closer.things, parts)
     step = next_step(closer, lines)
     while step is not None:
+        taken.append(step)
         lines = stepped(closer, lines, step)
         step = next_step(closer, lines)
-    return lines
+    return tuple(taken), lines
+
+
+def trail_of(closer, parts):
+    """Tell the lines at the end of the trail, without a look at what was passed."""
+    return walked(closer, parts)[1]
 
 
 def trail(closer, parts):

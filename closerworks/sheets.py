@@ -44,15 +44,26 @@ def is_part_behind(things, value, ahead):
     return all([part < value and not has_all(part, value) and not has_all(value, part) for part in ahead])
 
 
+def wrong_part(things, parts):
+    """Tell the index of the first element of a tuple that is wrong in parts, their number if a thing is in none."""
+    for at, part in enumerate(parts):
+        if at >= MOST_PARTS or not is_part_behind(things, part, parts[:at]):
+            return at
+    return None if has_all("".join(parts), things) else len(parts)
+
+
+def are_parts(things, value):
+    """Tell whether a value are parts of these things."""
+    return isinstance(value, tuple) and wrong_part(things, value) is None
+
+
 def check_parts(things, parts):
     """Raise an error for what are no parts of these things."""
     if not isinstance(parts, tuple):
         raise InvalidParts(None)
-    for at, part in enumerate(parts):
-        if at >= MOST_PARTS or not is_part_behind(things, part, parts[:at]):
-            raise InvalidParts(at)
-    if not has_all("".join(parts), things):
-        raise InvalidParts(len(parts))
+    wrong = wrong_part(things, parts)
+    if wrong is not None:
+        raise InvalidParts(wrong)
 
 
 def check_sheets(sheets, parts):

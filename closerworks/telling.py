@@ -12,13 +12,26 @@ def is_rule(things, value):
     return isinstance(value, tuple) and len(value) == 2 and is_lot(things, value[0]) and is_lot(things, value[1])
 
 
+def wrong_rule(things, rules):
+    """Tell the index of the first element of a tuple that is wrong in a book; None if there is none."""
+    for at, rule in enumerate(rules):
+        if at >= MOST_RULES or not is_rule(things, rule):
+            return at
+    return None
+
+
+def is_book(things, value):
+    """Tell whether a value is a book of rules between lots of these things."""
+    return isinstance(value, tuple) and wrong_rule(things, value) is None
+
+
 def check_book(things, book):
     """Raise an error for what is no book of rules between lots of these things."""
     if not isinstance(book, tuple):
         raise InvalidBook(None)
-    for at, rule in enumerate(book):
-        if at >= MOST_RULES or not is_rule(things, rule):
-            raise InvalidBook(at)
+    wrong = wrong_rule(things, book)
+    if wrong is not None:
+        raise InvalidBook(wrong)
 
 
 def check_rows(things, rows):

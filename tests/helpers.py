@@ -8,7 +8,11 @@ import random
 import unittest
 
 from closerworks import errors
+from closerworks.benches import Bench
 from closerworks.closers import Closer
+from closerworks.console import Console
+from closerworks.desks import Desk
+from closerworks.riddles import Riddle
 from closerworks.tables import Table
 
 
@@ -17,7 +21,10 @@ def odd_values():
     return [
         True, False, None, 0, 1, -1, 3, 10 ** 99, 1j, b"", b"a", b"ab", bytearray(b"a"), [], ["a"], ["", "a", "ab"],
         [["a", "b"]], {}, {"a": 1}, {"": "a"}, set(), {"a"}, frozenset("ab"), range(2), iter("ab"), object(), len,
-        Closer, Closer("a", ("a",)), Closer("ab", ("", "ab")), Table, Table("a", ("a",)), Table("ab", ()), errors.InvalidLot("a"), errors.InvalidLot, ValueError("a"),
+        Closer, Closer("a", ("a",)), Closer("ab", ("", "ab")), Table, Table("a", ("a",)), Table("ab", ()),
+        Riddle, Riddle("a", ()), Riddle("ab", (("a", "b", True),)), Bench(Closer("a", ("a",))), Desk, Desk(),
+        Console(Closer("a", ("a",))), Bench(Closer("ab", ("ab",))).trial(), Desk().put,
+        errors.InvalidLot("a"), errors.InvalidLot, ValueError("a"),
         lambda: "a", Ellipsis, NotImplemented, slice(0, 1), itertools, [[[[[[[[["a"]]]]]]]]],
     ]
 
@@ -138,6 +145,69 @@ def wrong_tables():
     values = odd_words() + odd_tuples() + ["", "a", (), ("ab", ("a",)), ("a", "ab"), Table]
     values += [value for value in odd_values() if not isinstance(value, Table)]
     return [(value, value) for value in values]
+
+
+def wrong_riddles():
+    """Values that are no riddles."""
+    values = odd_words() + odd_tuples() + ["", "a", (), ("ab", (("a", "b", True),)), ("a", ()), Riddle]
+    values += [value for value in odd_values() if not isinstance(value, Riddle)]
+    return [(value, value) for value in values]
+
+
+def wrong_asked(things, lot):
+    """Values that are none of these things, or are in a lot."""
+    return wrong_single_things(things) + [(thing, thing) for thing in lot]
+
+
+def wrong_truths():
+    """Values that are neither True nor False."""
+    values = [value for value in odd_values() if not isinstance(value, bool)] + odd_words() + odd_tuples()
+    return [(value, value) for value in values + ["", "True", (), (True,), [False], {True: False}, 0, 1, 2]]
+
+
+def wrong_answers_told(things):
+    """Values that are no tuples of answers about these things, each with the index that the error has."""
+    first, last = things[0], things[-1]
+    right = ("", first, True)
+    found = no_tuples() + [([right], None), ([], None), (right, 0), ((list(right),), 0), (right[:2], 0)]
+    values = odd_values() + odd_words() + odd_tuples() + ["", things, (), right[:2], right + (True,), list(right), (right,)]
+    values += [(first, first, True), (things, last, False), ("", "", True), ("", things * 2, True), (None, first, True)]
+    values += [(member, first, True) for member in wrong_members(things)]
+    values += [("", value, False) for value, _ in wrong_single_things(things)]
+    values += [("", first, value) for value, _ in wrong_truths()]
+    for value in values:
+        found += [((value,), 0), ((right, value), 1), ((right, right, value, value), 2), ((value, right), 0)]
+    found += [((right,) * 13, 12), ((right,) * 40, 12), ((right,) * 12 + (None,), 12), ((right,) * 5 + ("?",) * 9, 5)]
+    return found
+
+
+def wrong_strings(things):
+    """Values that are no tuples of rows, strings of all things, each with the index that the error has."""
+    back = things[::-1]
+    found = no_tuples() + [([things], None), ([], None), ((), None), ({things: 1}, None), (range(0), None)]
+    values = odd_values() + odd_words() + odd_tuples() + ["", things + things[0], things[1:], things + outside(things)]
+    values += [outside(things) + things[1:], things.upper(), things + " ", tuple(things), list(things), (things,), ()]
+    values += [things[0] * len(things)] if len(things) > 1 else []
+    for value in [value for value in values if not (isinstance(value, str) and sorted(value) == list(things))]:
+        found += [((value,), 0), ((things, value), 1), ((back, back, value, value), 2), ((value, things), 0)]
+    found += [((things,) * 61, 60), ((back,) * 99, 60), ((things,) * 60 + (None,), 60), ((back,) * 7 + ("",) * 90, 7)]
+    return found
+
+
+def wrong_weights(things):
+    """Values that are no tuples of weights, one for each thing, each with the index that the error has."""
+    many = len(things)
+    found = no_tuples() + [([0] * many, None), (range(many), None), (5, None)]
+    values = [value for value in odd_values() if isinstance(value, bool) or not isinstance(value, int)]
+    values += odd_words() + odd_tuples() + ["", "0", (), (0,), [0], 1000001, -1000001, 10 ** 99, -10 ** 99]
+    for value in values:
+        for at in {0, many // 2, many - 1}:
+            found += [((5,) * at + (value,) + (-5,) * (many - at - 1), at), ((0,) * at + (value,), at)]
+            found += [((0,) * at + (value, value) + (0,) * many, at)]
+        found += [((7,) * many + (value,), many)]
+    for short in range(many):
+        found += [((1000000,) * short, short)]
+    return found + [((0,) * (many + 1), many), ((-1000000,) * (many + 5), many)]
 
 
 def wrong_integers(most):
@@ -350,6 +420,83 @@ def example_closers():
     line = by_rules("abc", (("ac", "b"),))
     four = by_rules("abcd", (("ab", "c"), ("c", "d")))
     return flat, line, four
+
+
+@functools.cache
+def systems_of_four():
+    """All families of lots of four things with the whole and all their meets: 2480 of them."""
+    lots = every_lot("abcd")
+    numbers = {lot: sum(1 << "abcd".index(thing) for thing in lot) for lot in lots}
+    found = []
+    by_size = sorted([lot for lot in lots if lot != "abcd"], key=lambda lot: (-len(lot), lot))
+
+    def choose(at, chosen):
+        if at == len(by_size):
+            found.append(tuple(sorted(lot for lot in lots if numbers[lot] in chosen)))
+            return
+        number = numbers[by_size[at]]
+        choose(at + 1, chosen | {number})
+        # A lot that is a meet of those chosen so far, all of them no lesser, cannot be left out.
+        if not any(one & other == number for one in chosen for other in chosen):
+            choose(at + 1, chosen)
+
+    choose(0, frozenset([15]))
+    return found
+
+
+def swaps_told(closer):
+    """All swaps, by the words of the document."""
+    found = []
+    for lot in closer.closed:
+        for one, other in itertools.permutations([x for x in closer.things if x not in lot], 2):
+            if other in closer.around(as_lot(lot + one)) and one in closer.around(as_lot(lot + other)):
+                found.append((lot, one, other))
+    return found
+
+
+def bars_told(closer):
+    """All triples that bar exchange, by the words of the document."""
+    found = []
+    for lot in closer.closed:
+        for one, other in itertools.permutations([x for x in closer.things if x not in lot], 2):
+            if other in closer.around(as_lot(lot + one)) and one not in closer.around(as_lot(lot + other)):
+                found.append((lot, one, other))
+    return found
+
+
+def tails_told(row):
+    """The lots of the last things of a row."""
+    return {as_lot(row[at:]) for at in range(len(row) + 1)}
+
+
+def some_rows_of(things, many, seed):
+    """Some tuples of rows of these things, the same ones each time."""
+    chance = random.Random(seed)
+    for _ in range(many):
+        yield tuple("".join(chance.sample(things, len(things))) for _ in range(chance.randint(1, 6)))
+
+
+def closer_of_rows(things, rows):
+    """The closer of some rows, by the words of the document."""
+    tails = set().union(*[tails_told(row) for row in rows])
+    meets = {things}
+    for tail in tails:
+        meets |= {"".join(x for x in lot if x in tail) for lot in meets}
+    return Closer(things, tuple(sorted(meets)))
+
+
+def convex_samples():
+    """Convex closers of one, two, three, four, five and seven things."""
+    found = [closer for things in ("a", "xz", "abc") for closer in closers_of(things)
+             if closer.is_closed("") and not swaps_told(closer)]
+    for things, seed in (("bdfh", 5), ("abxyz", 6), ("acegikz", 7)):
+        found += [closer_of_rows(things, rows) for rows in some_rows_of(things, 12, seed)]
+    return found + [Closer("abcdefg", tuple(every_lot("abcdefg")))]
+
+
+def other_samples():
+    """Closers that are not convex."""
+    return [closer for closer in sample_closers() + closers_of("abc") if not closer.is_closed("") or swaps_told(closer)]
 
 
 def sample_closers():

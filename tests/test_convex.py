@@ -1,6 +1,5 @@
 """[2], [22] Convex closers, swaps and ends."""
 
-import itertools
 import unittest
 
 from closerworks import convex as module
@@ -10,7 +9,7 @@ from closerworks.errors import InvalidLot, NotACloser
 from closerworks.telling import by_family, by_rules
 from closerworks.topologies import by_leads
 from tests.helpers import (Case, as_lot, closers_of, every_lot, example_closers, sample_closers, some_closers,
-                           wrong_closers, wrong_lots)
+                           swaps_told, wrong_closers, wrong_lots)
 
 SEVEN = "acegikz"
 FLAT, LINE, FOUR = example_closers()
@@ -20,16 +19,6 @@ BETWEEN = by_family("abcdefg", tuple(sorted("abcdefg"[at:end] for at in range(7)
 
 def all_samples():
     return [BETWEEN] + sample_closers() + closers_of("abc") + some_closers("bdfh", 20, 77)
-
-
-def swaps_told(closer):
-    """All swaps, by the words of the document."""
-    found = []
-    for lot in closer.closed:
-        for one, other in itertools.permutations([x for x in closer.things if x not in lot], 2):
-            if other in closer.around(as_lot(lot + one)) and one in closer.around(as_lot(lot + other)):
-                found.append((lot, one, other))
-    return found
 
 
 def ends_told(closer, lot):

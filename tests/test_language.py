@@ -17,9 +17,9 @@ BUILTINS = set("""len range enumerate zip min max sum abs sorted reversed int st
 BARRED = set("""type typing enum Enum Flag Generic Protocol ABC namedtuple dataclass overload contextmanager register mro
     elements open input law eval exec compile globals locals vars dir id os sys copyright credits license""".split())
 ORDER = """limits errors lots closers telling comparing rules books keys sheets parts tables orders topologies convex
-    peels exchange riddles benches desks checker certificates console""".split()
+    peels exchange kinds riddles benches desks checker certificates console""".split()
 STATEMENTS = (ast.AsyncFunctionDef, ast.AsyncFor, ast.AsyncWith, ast.Await, ast.Global, ast.GeneratorExp, ast.Yield,
-              ast.YieldFrom, ast.Div, ast.AnnAssign, ast.Try, ast.Lambda)
+              ast.YieldFrom, ast.Div, ast.AnnAssign, ast.Lambda)
 DOUBLE = {"__init__", "__eq__", "__repr__", "__str__", "__len__", "__bool__", "__enter__", "__exit__"}
 
 
@@ -81,6 +81,61 @@ class Language(unittest.TestCase):
                     self.assertTrue(not node.name.startswith("__") or node.name in DOUBLE, (path, node.name))
                 if isinstance(node, ast.Attribute):
                     self.assertFalse(node.attr.startswith("__"), (path, node.attr))
+
+    def test_only_errors_of_the_package_are_caught(self):
+        own = {row.name for row in ast.parse((FOLDER / "errors.py").read_text(encoding="ascii")).body
+               if isinstance(row, ast.ClassDef)}
+        for path, _, tree in self.trees():
+            for node in ast.walk(tree):
+                if isinstance(node, ast.Try):
+                    self.assertEqual([node.orelse, node.finalbody], [[], []], (path, node.lineno))
+                    for handler in node.handlers:
+                        kinds = handler.type.elts if isinstance(handler.type, ast.Tuple) else [handler.type]
+                        self.assertLessEqual({kind.id for kind in kinds}, own, (path, node.lineno))
+                if isinstance(node, ast.Raise):
+                    self.assertIn(node.exc.func.id, own, (path, node.lineno))
+
+    def test_methods_attributes_and_properties_have_names_of_their_own(self):
+        methods, properties, stored = set(), set(), set()
+        for _, _, tree in self.trees():
+            for node in ast.walk(tree):
+                if isinstance(node, ast.ClassDef):
+                    for row in node.body:
+                        if isinstance(row, ast.FunctionDef):
+                            told = [name.id for name in row.decorator_list]
+                            (properties if told == ["property"] else methods).add(row.name)
+                if isinstance(node, ast.Attribute) and isinstance(node.ctx, ast.Store):
+                    self.assertIsInstance(node.value, ast.Name)
+                    stored.add(node.attr)
+        self.assertFalse(methods & properties or methods & stored or properties & stored)
+        self.assertFalse((properties | stored) & (set(dir(str)) | set(dir(dict)) | set(dir(list)) | set(dir(int))) - {"index"})
+
+    def test_what_an_end_of_a_trial_does(self):
+        found = 0
+        for path, _, tree in self.trees():
+            for node in ast.walk(tree):
+                if isinstance(node, ast.With):
+                    self.assertEqual([ast.unparse(item) for item in node.items], ["self.trial()"], path)
+                if isinstance(node, ast.FunctionDef) and node.name == "__exit__":
+                    self.assertEqual([arg.arg for arg in node.args.args], ["self", "kind", "value", "trace"])
+                    for part in ast.walk(node):
+                        self.assertNotIsInstance(part, (ast.Call, ast.Return, ast.Subscript, ast.BinOp, ast.Raise, ast.For))
+                        if isinstance(part, ast.If):
+                            self.assertEqual(ast.unparse(part.test), "kind is not None")
+                    found += 1
+        self.assertEqual(found, 1)
+
+    def test_tables_hold_plain_values_and_functions_above(self):
+        for path, _, tree in self.trees():
+            above = set()
+            for row in tree.body:
+                if isinstance(row, ast.FunctionDef):
+                    above.add(row.name)
+                if isinstance(row, ast.Assign):
+                    for node in ast.walk(row.value):
+                        self.assertNotIsInstance(node, (ast.Call, ast.ListComp, ast.DictComp, ast.Attribute), path)
+                        if isinstance(node, ast.Name):
+                            self.assertIn(node.id, above, path)
 
     def test_is_stands_beside_none_true_and_false_alone(self):
         for path, _, tree in self.trees():
